@@ -1,0 +1,1 @@
+"""Sealchart: signed updates handed on by mirrors that nobody trusts."""
