@@ -1,67 +1,78 @@
-"""Point 4 and the plain form of the package's files: what they import, their characters, their sizes."""
+"""The files of the package: the rules of LANGUAGE.md, and the interface, each name in its file."""
 
 import ast
 import pathlib
 import unittest
 
+import rules
+
 PACKAGE = pathlib.Path(__file__).resolve().parent.parent / "sealchart"
-FILES = sorted(PACKAGE.rglob("*.py"))
-LIBRARY = {"heapq", "math", "itertools", "collections"}
+FILES = sorted(path for path in PACKAGE.rglob("*") if path.is_file() and "__pycache__" not in path.parts)
+# The functions and classes of each file with their arguments, and the methods of a class behind its name.
 INTERFACE = {
-    "errors": [
-        "ChartError", "BadText", "BadDocument", "BadKey", "BadState", "DiskError", "DiskCrashed", "Refused", "BadAct",
-    ],
-    "texts": ["is_printable", "is_integer", "encode", "decode"],
+    "errors": {
+        "ChartError": {}, "BadText": {}, "BadDocument": {}, "BadKey": {}, "BadState": {}, "DiskError": {},
+        "DiskCrashed": {}, "Refused": {"__init__": ["reason"]}, "BadAct": {"__init__": ["reason"]},
+    },
+    "texts": {
+        "is_printable": ["value"], "is_integer": ["value", "least", "greatest"], "encode": ["value"],
+        "decode": ["text"],
+    },
+    "names": {
+        "is_list_name": ["value"], "is_key": ["value"], "is_path": ["value"], "is_pattern": ["value"],
+        "matches": ["pattern", "path"],
+    },
+    "digests": {"digest": ["text"]},
+    "seals": {"Seals": {"make": ["key", "text"], "holds": ["key", "text", "mark"], "count": []}},
+    "envelope": {
+        "seal": ["office", "text", "keys"], "opened": ["sealed"], "support": ["office", "sealed", "keys"],
+    },
 }
 
 
-def tree_of(path):
-    return ast.parse(path.read_text(encoding="utf-8"))
+def module_name(path):
+    words = path.relative_to(PACKAGE.parent).with_suffix("").parts
+    return ".".join(words[:-1] if words[-1] == "__init__" else words)
+
+
+def arguments(function):
+    return [inner.arg for inner in function.args.args]
 
 
 class Form(unittest.TestCase):
     def test_there_are_files(self):
         self.assertIn(PACKAGE / "__init__.py", FILES)
+        for name in INTERFACE:
+            self.assertIn(PACKAGE / (name + ".py"), FILES)
 
-    def test_a_file_imports_only_from_the_package_and_the_small_library(self):
+    def test_the_folder_contains_nothing_but_plain_files(self):
         for path in FILES:
-            for node in ast.walk(tree_of(path)):
-                with self.subTest(path.name):
-                    self.assertNotIsInstance(node, ast.Import)
-                    if isinstance(node, ast.ImportFrom):
-                        self.assertEqual(node.level, 0)
-                        self.assertIn(node.module.split(".")[0], LIBRARY | {"sealchart"})
-
-    def test_no_file_reaches_out(self):
-        barred = {"open", "input", "print", "eval", "exec", "compile", "globals", "locals", "hash", "id"}
-        for path in FILES:
-            names = {node.id for node in ast.walk(tree_of(path)) if isinstance(node, ast.Name)}
             with self.subTest(path.name):
-                self.assertEqual(names & barred, set())
+                self.assertRegex(path.name, rules.FILE_NAME)
+                self.assertNotRegex(path.stem, "^(law_.*|tests?|testing|test_.*|site|conftest)$")
+                path.read_bytes().decode("ascii")
 
-    def test_the_characters_and_lines_of_a_file(self):
-        for path in FILES:
-            text = path.read_bytes().decode("ascii")
-            lines = text.split("\n")
-            with self.subTest(path.name):
-                self.assertEqual([mark for mark in text if not " " <= mark <= "~" and mark != "\n"], [])
-                self.assertLess(len(lines), 400)
-                self.assertLessEqual(max(len(line) for line in lines), 120)
-
-    def test_no_function_is_longer_than_forty_lines(self):
-        for path in FILES:
-            for node in ast.walk(tree_of(path)):
-                if isinstance(node, ast.FunctionDef):
-                    with self.subTest((path.name, node.name)):
-                        self.assertLessEqual(node.end_lineno - node.lineno + 1, 40)
+    def test_the_rules_of_the_language(self):
+        texts = {module_name(path): path.read_text(encoding="ascii") for path in FILES}
+        self.assertEqual(rules.package_faults(texts), [])
 
     def test_the_interface_is_defined_in_its_files(self):
         for name, words in INTERFACE.items():
-            body = tree_of(PACKAGE / (name + ".py")).body
-            defined = [node.name for node in body if isinstance(node, (ast.FunctionDef, ast.ClassDef))]
-            for word in words:
+            body = ast.parse((PACKAGE / (name + ".py")).read_text(encoding="ascii")).body
+            defined = {node.name: node for node in body if isinstance(node, (ast.FunctionDef, ast.ClassDef))}
+            for word, told in words.items():
                 with self.subTest((name, word)):
                     self.assertIn(word, defined)
+                    self.compare(defined[word], told)
+
+    def compare(self, node, told):
+        if isinstance(node, ast.FunctionDef):
+            self.assertEqual(arguments(node), told)
+            return
+        methods = {inner.name: inner for inner in node.body if isinstance(inner, ast.FunctionDef)}
+        for method, names in told.items():
+            self.assertIn(method, methods)
+            self.assertEqual(arguments(methods[method]), ["self"] + names)
 
 
 if __name__ == "__main__":
