@@ -80,7 +80,18 @@ def package_faults(texts):
             found.append((rule, module, line))
         for rule, line in imports(module, trees):
             found.append((rule, module, line))
+    for module, tree in trees.items():
+        for line in methods_assigned(tree, trees):
+            found.append(("L18", module, line))
     return sorted(set(found))
+
+
+def methods_assigned(tree, trees):
+    """The lines in which an attribute is assigned that has the name of a method of some class of the package."""
+    methods = {node.name for other in trees.values() for node in ast.walk(other)
+               if isinstance(node, ast.FunctionDef) and isinstance(node.above, ast.ClassDef)}
+    return [node.lineno for node in ast.walk(tree)
+            if isinstance(node, ast.Attribute) and isinstance(node.ctx, ast.Store) and node.attr in methods]
 
 
 def parsed(text):

@@ -27,6 +27,49 @@ INTERFACE = {
     "envelope": {
         "seal": ["office", "text", "keys"], "opened": ["sealed"], "support": ["office", "sealed", "keys"],
     },
+    "documents": {
+        "is_role": ["value"], "is_digest": ["value"], "is_grant": ["value"], "is_charter": ["value"],
+        "is_stamp": ["value"], "is_shelf": ["value"], "is_list": ["value"], "read": ["kind", "text"],
+        "write": ["document"], "covers": ["grant", "path"], "good_of": ["document", "path"],
+        "entry_of": ["document", "name"], "published_name": ["document"], "file_name": ["path", "digest"],
+    },
+    "trusted": {
+        "Trusted": {
+            "__init__": ["office", "sealed"], "accept_charter": ["sealed"], "accept_stamp": ["sealed"],
+            "accept_shelf": ["sealed"], "accept_list": ["name", "sealed", "role"],
+            "restore_stamp": ["sealed", "roles"], "restore_shelf": ["sealed"], "outdated": [], "forget": [],
+            "is_current": [], "charter": [], "stamp": [], "shelf": [], "list_of": ["name"], "list_role": ["name"],
+            "sealed": ["kind"], "roles": [],
+        },
+        "role_of": ["charter", "name"], "has_expired": ["document", "time"],
+    },
+    "search": {
+        "Search": {"__init__": ["charter", "shelf", "path"], "wanted": [], "give": ["document"], "result": []},
+        "lookup": ["charter", "shelf", "lists", "path"],
+    },
+    "disk": {
+        "Disk": {
+            "put": ["name", "text"], "remove": ["name"], "read": ["name"], "names": [], "arm": ["count", "kept"],
+            "restart": [],
+        },
+    },
+    "vault": {
+        "load": ["office", "disk", "first"], "store": ["disk", "trusted", "kind"], "discard": ["disk"],
+    },
+    "client": {
+        "Client": {
+            "__init__": ["disk", "office", "first"], "start": ["time"], "look": ["path"], "install": ["path"],
+            "give": ["text"], "wanted": [], "status": [], "versions": [], "trusted": [],
+        },
+    },
+    "workshop": {
+        "Workshop": {
+            "__init__": ["office", "roles", "expires"], "turn": ["roles", "expires"], "put": ["name", "path", "text"],
+            "drop": ["name", "path"], "grant": ["name", "grant"], "revoke": ["name", "other"], "publish": ["expires"],
+            "renew": ["expires"], "text": ["name"], "names": [], "first": [], "stamps": [], "snapshot": ["version"],
+            "charters": [],
+        },
+    },
 }
 
 

@@ -204,6 +204,7 @@ FILES = [
     ("L17", "class Enum:\n    pass\n"),
     ("L18", "class A:\n    def f(self):\n        return 1\n\n    def f(self):\n        return 2\n"),
     ("L18", "class A:\n    def __init__(self):\n        self.f = 1\n\n    def f(self):\n        return 2\n"),
+    ("L18", "class A:\n    def __init__(self):\n        self.f = 1\n\n\nclass B:\n    def f(self):\n        pass\n"),
     ("L21", "def f(a: int):\n    return a\n"),
     ("L26", "class A:\n    def decode(self):\n        return 1\n"),
     ("L28", "class A:\n    def __init__(self):\n        return None\n"),
